@@ -2,6 +2,7 @@
 package impl
 
 import (
+	"math/bits"
 	"strconv"
 	"strings"
 )
@@ -29,9 +30,6 @@ const (
 	okLine  = "+OK" + lineEnd
 )
 
-// replyDeep bounds how far replies stand one within the other: one that holds itself would never be told to its end.
-const replyDeep = 100000
-
 // Reply is a word that all went well, an error, a number, a text, nothing, texts, or replies.
 type Reply struct {
 	Kind  int
@@ -44,14 +42,50 @@ type Reply struct {
 // ReplyPut writes a reply.
 func ReplyPut(r Reply) string {
 	var out strings.Builder
-	if !putReply(&out, r, replyDeep) {
-		return okLine
+	levels := []level{{many: []Reply{r}}} // not by recursion: replies may lie deeper than a stack goes
+	for len(levels) > 0 {
+		end := &levels[len(levels)-1]
+		if end.told == len(end.many) {
+			levels = levels[:len(levels)-1]
+			continue
+		}
+		end.told++
+		next := end.last()
+		putHead(&out, next)
+		if next.Kind != ReplyMany {
+			continue
+		}
+		if holdsItself(levels) {
+			return okLine
+		}
+		levels = append(levels, level{many: next.Many})
 	}
 	return out.String()
 }
 
-// putReply is false if replies go deeper than they may.
-func putReply(out *strings.Builder, r Reply, deep int) bool {
+// level is replies side by side, of which so many are told; the last of these goes on in the level behind, if there is one.
+type level struct {
+	many []Reply
+	told int
+}
+
+func (l *level) last() *Reply {
+	return &l.many[l.told-1]
+}
+
+// holdsItself says whether the last reply comes again that lies at the last power of two ahead of it.
+// Replies that hold themselves come round and round on the way down, so one of those places is met again, however long a round is; others never come twice on one way down.
+func holdsItself(levels []level) bool {
+	end := len(levels) - 1
+	if end < 2 {
+		return false
+	}
+	ahead := 1 << (bits.Len(uint(end-1)) - 1)
+	return levels[ahead].last() == levels[end].last()
+}
+
+// putHead writes a reply, but for what it holds of others.
+func putHead(out *strings.Builder, r *Reply) {
 	switch r.Kind {
 	case ReplyErr:
 		out.WriteString("-" + r.Text + lineEnd)
@@ -64,24 +98,10 @@ func putReply(out *strings.Builder, r Reply, deep int) bool {
 	case ReplyTexts:
 		putTexts(out, r.Texts)
 	case ReplyMany:
-		return putMany(out, r.Many, deep)
+		putNumber(out, "*", len(r.Many))
 	default:
 		out.WriteString(okLine)
 	}
-	return true
-}
-
-func putMany(out *strings.Builder, many []Reply, deep int) bool {
-	if deep == 0 {
-		return false
-	}
-	putNumber(out, "*", len(many))
-	for _, r := range many {
-		if !putReply(out, r, deep-1) {
-			return false
-		}
-	}
-	return true
 }
 
 func putNumber(out *strings.Builder, mark string, n int) {
@@ -257,6 +277,10 @@ func figuresGet(figures string) (int, bool) {
 		}
 	}
 	return n, true
+}
+
+func numberOk(n int) bool {
+	return -IntMax <= n && n <= IntMax
 }
 
 // Match says whether a text is as a pattern: a question mark is any byte, a star any bytes.

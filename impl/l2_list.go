@@ -79,10 +79,6 @@ func listOk(list []string) bool {
 	return len(list) <= ListMax && textsOk(list)
 }
 
-func placeOk(at int) bool {
-	return -IntMax <= at && at <= IntMax
-}
-
 // placesBetween is where places from one to another one begin and end (the end is behind the last), of so many.
 func placesBetween(size int, from int, to int) (int, int) {
 	if from < 0 {
@@ -126,7 +122,7 @@ func ListPop(list []string, front bool) ([]string, string, bool) {
 // ListRange is texts from one place to another one; below 0 from the end.
 func ListRange(list []string, from int, to int) []string {
 	r, ok := ringOf(list)
-	if !ok || !placeOk(from) || !placeOk(to) {
+	if !ok || !numberOk(from) || !numberOk(to) {
 		return nil
 	}
 	return r.between(placesBetween(r.size, from, to))
@@ -156,7 +152,7 @@ func ListSet(list []string, at int, text string) ([]string, bool) {
 // ListDrop takes texts away that are one: the first so many, the last so many, if that is below 0, or all; and how many these are.
 func ListDrop(list []string, count int, text string) ([]string, int) {
 	r, ok := ringOf(list)
-	if !ok || !placeOk(count) {
+	if !ok || !numberOk(count) {
 		return nil, 0
 	}
 	front, most := count >= 0, max(count, -count)

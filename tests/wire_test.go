@@ -75,13 +75,41 @@ func TestP1ReplyEndsItsLine(t *testing.T) {
 	}
 }
 
-func TestReplyFarWithinOthers(t *testing.T) {
-	r := impl.Reply{Kind: impl.ReplyInt, Num: 7}
-	for range 5000 {
-		r = impl.Reply{Kind: impl.ReplyMany, Many: []impl.Reply{r}}
+// P1: of many it ends with each of them, however deep they lie.
+func TestP1ReplyFarWithinOthers(t *testing.T) {
+	for _, deep := range []int{1, 2, 3, 4, 5, 1023, 1024, 1025, 100000, 100001, 1 << 20, 1<<20 + 1} {
+		r := impl.Reply{Kind: impl.ReplyInt, Num: 7}
+		for range deep {
+			r = impl.Reply{Kind: impl.ReplyMany, Many: []impl.Reply{r}}
+		}
+		if got := impl.ReplyPut(r); got != strings.Repeat("*1\r\n", deep)+":7\r\n" {
+			t.Errorf("%d deep: %d bytes", deep, len(got))
+		}
 	}
-	if got := impl.ReplyPut(r); got != strings.Repeat("*1\r\n", 5000)+":7\r\n" {
-		t.Error(len(got))
+}
+
+func TestP1ReplyFarWithinOthersWithSomeBeside(t *testing.T) {
+	const deep = 120000
+	r := impl.Reply{Kind: impl.ReplyMany}
+	for range deep {
+		r = impl.Reply{Kind: impl.ReplyMany, Many: []impl.Reply{{Kind: impl.ReplyNone}, r, {Kind: impl.ReplyMany, Many: []impl.Reply{{}}}}}
+	}
+	want := strings.Repeat("*3\r\n$-1\r\n", deep) + "*0\r\n" + strings.Repeat("*1\r\n+OK\r\n", deep)
+	if got := impl.ReplyPut(r); got != want {
+		t.Errorf("%d bytes, not %d", len(got), len(want))
+	}
+}
+
+// P1: replies that come again and again, and do not hold themselves, are told each time.
+func TestP1ReplyHeldTwice(t *testing.T) {
+	r, want := impl.Reply{Kind: impl.ReplyInt, Num: 1}, ":1\r\n"
+	for range 12 {
+		one := impl.Reply{Kind: impl.ReplyMany, Many: []impl.Reply{r}}
+		r = impl.Reply{Kind: impl.ReplyMany, Many: []impl.Reply{one, one}}
+		want = "*2\r\n*1\r\n" + want + "*1\r\n" + want
+		if got := impl.ReplyPut(r); got != want {
+			t.Fatalf("%d bytes, not %d", len(got), len(want))
+		}
 	}
 }
 
@@ -92,6 +120,30 @@ func TestReplyThatHoldsItself(t *testing.T) {
 	self[1] = impl.Reply{Kind: impl.ReplyMany, Many: self}
 	if got := impl.ReplyPut(self[0]); got != "+OK\r\n" {
 		t.Errorf("%d bytes", len(got))
+	}
+}
+
+// round is a reply that comes to itself again behind so many others, and lies that far within others.
+func round(others int, within int) impl.Reply {
+	first := make([]impl.Reply, 2)
+	r := impl.Reply{Kind: impl.ReplyMany, Many: first}
+	for range others {
+		r = impl.Reply{Kind: impl.ReplyMany, Many: []impl.Reply{{Kind: impl.ReplyNone}, r}}
+	}
+	first[1] = r
+	for range within {
+		r = impl.Reply{Kind: impl.ReplyMany, Many: []impl.Reply{{Kind: impl.ReplyMany}, r, {}}}
+	}
+	return r
+}
+
+func TestReplyThatHoldsItselfFarBehind(t *testing.T) {
+	for _, others := range []int{0, 1, 2, 3, 4, 5, 7, 8, 9, 1000, 70000} {
+		for _, within := range []int{0, 1, 2, 3, 4, 5, 1000, 70000} {
+			if got := impl.ReplyPut(round(others, within)); got != "+OK\r\n" {
+				t.Errorf("%d, %d: %d bytes", others, within, len(got))
+			}
+		}
 	}
 }
 
