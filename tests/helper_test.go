@@ -19,7 +19,7 @@ var (
 var wrongPlaces = []int{1000000001, -1000000001, 1<<63 - 1, -1 << 63}
 
 func TestLimits(t *testing.T) {
-	if impl.TextMax != 40 || impl.ArgMax != 8 || impl.IntMax != 1000000000 || impl.ListMax != 16 || impl.KeyMax != 12 || impl.EntryMax != 12 || impl.TimeMax != 1000000 || impl.FileMax != 6000 || impl.ClientMax != 3 || impl.QueueMax != 6 || impl.WatchMax != 4 {
+	if impl.TextMax != 40 || impl.ArgMax != 8 || impl.IntMax != 1000000000 || impl.ListMax != 16 || impl.KeyMax != 12 || impl.EntryMax != 12 || impl.TimeMax != 1000000 || impl.FileMax != 6000 || impl.ClientMax != 3 || impl.QueueMax != 6 || impl.WatchMax != 4 || impl.ItemMax != 16 || impl.GroupMax != 3 || impl.WaitMax != 16 {
 		t.Error("a limit is not as the document has it")
 	}
 }
